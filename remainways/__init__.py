@@ -1,0 +1,1 @@
+"""Remainways: ways of work on one term, and what is left of one after another."""

@@ -1,0 +1,119 @@
+"""The interface: each name in its own module, with its parameters, and the examples of the document."""
+
+import importlib
+import inspect
+import unittest
+
+from remainways.books import Book
+from remainways.counts import lot_dues, size_after
+from remainways.doing import done
+from remainways.steps import step_places
+from remainways.terms import Term
+from tests.helper import Case
+
+FUNCTIONS = {
+    "words": {"is_name": "value", "is_hole": "value", "is_number": "value least most"},
+    "places": {"is_place": "value", "is_beneath": "place other", "place_text": "place", "read_place": "text",
+               "lot_text": "lot"},
+    "books": {"stand_on": "one other place"},
+    "steps": {"rule_at": "book term place", "step_places": "book term", "walk_steps": "book term",
+              "lot_of": "book term lot"},
+    "doing": {"done": "book term lot", "followed": "book term place lot", "left_lot": "book term lot other"},
+    "counts": {"times_of": "book term place lot", "size_after": "book term lot", "lot_dues": "book term lot",
+               "lot_steps": "book term lot"},
+    "orders": {"least_row": "book term lot", "greatest_row": "book term lot", "rows_of_lot": "book term lot"},
+}
+METHODS = {
+    ("terms", "Term"): {
+        "parts": "self", "sign": "self", "sub": "self place", "with_sub": "self place term", "places": "self",
+        "holes": "self", "is_plain": "self", "is_pattern": "self", "is_piece": "self", "is_fit": "self",
+        "text": "self", "read": "text", "__str__": "self", "__iter__": "self", "__eq__": "self other",
+        "__len__": "self", "__repr__": "self", "__and__": "self other", "__init__": "self word parts",
+    },
+    ("rules", "Rule"): {
+        "copies": "self", "strikes": "self", "times": "self hole", "hole_places": "self hole", "text": "self",
+        "__str__": "self", "__eq__": "self other", "__repr__": "self", "__init__": "self left right due",
+    },
+    ("books", "Book"): {
+        "rules": "self", "rules_for": "self sign", "first_striking": "self", "first_copying": "self",
+        "is_even": "self", "with_rule": "self rule", "text": "self", "read": "text", "__str__": "self",
+        "__iter__": "self", "__eq__": "self other", "__len__": "self", "__repr__": "self", "__init__": "self rules",
+    },
+    ("ways", "Way"): {
+        "lots": "self", "terms": "self", "with_lot": "self lot", "followed_by": "self way", "text": "self",
+        "read": "book start text", "__str__": "self", "__iter__": "self", "__eq__": "self other", "__len__": "self",
+        "__repr__": "self", "__init__": "self book start lots",
+    },
+}
+STATIC = (("terms", "Term"), ("books", "Book"), ("ways", "Way"))
+
+
+def module_of(name):
+    """The module of this name."""
+    return importlib.import_module(f"remainways.{name}")
+
+
+def words_of(call):
+    """The names of the parameters of a call, with spaces between."""
+    return " ".join(inspect.signature(call).parameters)
+
+
+class NamesTest(Case):
+    def test_functions_stand_in_their_modules(self):
+        for name, functions in FUNCTIONS.items():
+            for function, words in functions.items():
+                found = getattr(module_of(name), function)
+                self.assertEqual([found.__module__, words_of(found)], [f"remainways.{name}", words])
+
+    def test_classes_have_their_methods_themselves(self):
+        for (name, word), methods in METHODS.items():
+            found = getattr(module_of(name), word)
+            self.assertEqual(found.__module__, f"remainways.{name}")
+            for method, words in methods.items():
+                self.assertIn(method, vars(found))
+                self.assertEqual(words_of(getattr(found, method)), words)
+
+    def test_static_methods_and_properties(self):
+        for name, word in STATIC:
+            self.assertIsInstance(vars(getattr(module_of(name), word))["read"], staticmethod)
+        self.assertIsInstance(vars(module_of("terms").Term)["levels"], property)
+        self.assertIsInstance(vars(module_of("ways").Way)["end"], property)
+
+    def test_operators_stand_in_their_classes(self):
+        self.assertIn("__contains__", vars(module_of("terms").Term))
+        self.assertIn("__add__", vars(module_of("books").Book))
+        self.assertIn("__add__", vars(module_of("ways").Way))
+
+    def test_defaults(self):
+        due = inspect.signature(module_of("rules").Rule).parameters["due"]
+        self.assertEqual([due.default, due.kind], [1, inspect.Parameter.KEYWORD_ONLY])
+        self.assertEqual(inspect.signature(module_of("ways").Way).parameters["lots"].default, ())
+
+    def test_generators(self):
+        self.assertTrue(inspect.isgeneratorfunction(module_of("steps").walk_steps))
+        self.assertTrue(inspect.isgeneratorfunction(module_of("orders").rows_of_lot))
+
+
+class ExamplesTest(Case):
+    def test_lots_and_what_they_bring(self):
+        book = Book.read("1 add(o,Y) -> Y\n1 add(s(X),Y) -> s(add(X,Y))\n1 mul(o,Y) -> o\n"
+                         "1 mul(s(X),Y) -> add(Y,mul(X,Y))\n")
+        start = Term.read("mul(s(s(o)),add(s(o),o))")
+        lot = step_places(book, start)
+        told = [lot, done(book, start, lot).text(), lot_dues(book, start, lot), size_after(book, start, lot)]
+        self.assert_equal(told, [[(), (2,)], "add(s(add(o,o)),mul(s(o),s(add(o,o))))", (2, 3), 12])
+
+    def test_overlaps(self):
+        told = [0, 1, (), Term.read("or(yes,yes)")]
+        self.raises("Overlaps", told, Book.read, "1 or(yes,X) -> yes\n1 or(X,yes) -> yes\n")
+
+    def test_wrong_text(self):
+        self.raises("InvalidText", [0, 6], Term.read, "add(o,)")
+
+    def test_ends_that_are_alike(self):
+        book, start = Book.read("1 one(X) -> X\n"), Term.read("one(one(o))")
+        self.assertEqual(done(book, start, [()]), done(book, start, [(1,)]))
+
+
+if __name__ == "__main__":
+    unittest.main()
