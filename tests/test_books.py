@@ -171,6 +171,8 @@ class MakeTest(Case):
         rows = [(book.first_striking(), book.first_copying(), book.is_even()) for book in BOOKS]
         self.assert_equal(rows, [(None, None, True), (None, None, True), (1, 0, False), (2, 3, False),
                                  (None, None, True), (0, 1, False), (1, 0, False)])
+        for text in ("one(X) -> p(X,X)", "one(X) -> o"):
+            self.assertIs(Book(*rules("a(X) -> X", text)).is_even(), False)
         both = Book(*rules("a(X) -> X", "b(X,Y) -> p(X,X)", "c(X) -> o"))
         self.assertEqual([both.first_striking(), both.first_copying()], [1, 1])
 
@@ -216,6 +218,10 @@ class TextTest(Case):
         for value in ANY_VALUES:
             if not isinstance(value, str):
                 self.raises("InvalidText", [0, 0], Book.read, value)
+
+    def test_letters_at_the_ends_of_the_alphabet(self):
+        text = "1 z(Z,a(AZ)) -> Z\n9 zz(az,ZZZZ) -> za(ZZZZ,a)\n"
+        self.assertEqual(Book.read(text).text(), text)
 
     def test_wrong_lines(self):
         wrong = {

@@ -11,7 +11,7 @@ from tests.helper import ANY_VALUES, BOOKS, Case, nested, places_by_words, rando
 
 TEXTS = (
     "o", "X", "_", "abcdefgh", "WXYZ", "add(s(X),Y)", "f(_,X,o,g(_))", "pair(pair(a,b),pair(c,d))",
-    "s(s(s(s(Y))))", "f(o)", "f(o,o)", "f(o,o,o)", "f(o,o,o,o)", "mul(s(s(o)),add(s(o),o))", "g(X,X,Y,X)",
+    "s(s(s(s(Y))))", "f(o)", "f(o,o)", "f(o,o,o)", "f(o,o,o,o)", "mul(s(s(o)),add(s(o),o))", "g(X,X,Y,X)", "z(Z,zz(ZA),AZ,A)", "az(a,ZZZZ)",
 )
 
 
