@@ -94,7 +94,7 @@ def measures_behind(term, lot):
 
 def measures_of(term):
     """The pair of the size and the levels of a term."""
-    return (len(term), term.levels)
+    return (term.size(), term.levels)
 
 
 def measures_filled(rule, place, part, found):
@@ -102,7 +102,7 @@ def measures_filled(rule, place, part, found):
 
     found has the measures of the contents that are no longer those of the part.
     """
-    size = len(rule.right)
+    size = rule.right.size()
     levels = rule.right.levels
     for spot, hole in rule.left_holes():
         inner = found.get(place + spot, measures_of(part.sub(spot)))

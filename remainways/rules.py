@@ -66,7 +66,7 @@ def check_sides(left, right):
         raise InvalidSide("left")
     if not isinstance(right, Term) or not right.is_pattern():
         raise InvalidSide("right")
-    if len(left) > MOST_SIDE or len(right) > MOST_SIDE:
+    if left.size() > MOST_SIDE or right.size() > MOST_SIDE:
         raise TooMany(MOST_SIDE)
 
 

@@ -36,6 +36,10 @@ class Term:
         """The pair (name, number of arguments), None for a hole or a blank at the top."""
         return self._sign
 
+    def size(self):
+        """The number of the places, up to 10**18; unlike len it costs the same however great the term is."""
+        return self._size
+
     @property
     def levels(self):
         """The length of the longest place plus 1."""
@@ -134,7 +138,7 @@ class Term:
         return isinstance(other, Term) and is_same(self, other)
 
     def __len__(self):
-        return len(range(self._size))
+        return len(list(range(self._size)))
 
     def __bool__(self):
         return True

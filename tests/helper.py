@@ -216,6 +216,13 @@ def nested(name, many, inside):
     return inside
 
 
+def shared(name, many, inside):
+    """A term of 2 ** many times the term inside it, with equal parts shared."""
+    for _ in range(many):
+        inside = Term(name, inside, inside)
+    return inside
+
+
 def sized(many):
     """A term with so many places and few levels."""
     if many < 5:

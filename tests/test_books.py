@@ -7,7 +7,7 @@ import unittest
 from remainways.books import Book, stand_on
 from remainways.rules import Rule
 from remainways.terms import Term
-from tests.helper import ANY_VALUES, BOOKS, Case, names_by_words, nested, put_in
+from tests.helper import ANY_VALUES, BOOKS, Case, names_by_words, nested, put_in, shared
 
 LINE = "1 add(s(X),Y) -> s(add(X,Y))\n"
 
@@ -134,6 +134,17 @@ class MakeTest(Case):
         self.raises("TooMany", [24], book.with_rule, made[24])
         self.raises("TooMany", [24], lambda: book + made[24])
         self.raises("TooMany", [24], Book.read, "".join(f"{one}\n" for one in made))
+
+    def test_books_of_sides_without_bound(self):
+        good, book = rule("one(X) -> X"), BOOKS[2]
+        for many in (24, 40, 60, 2000):
+            great = shared("p", many, Term("X"))
+            self.raises("TooMany", [24], lambda: Book(good, Rule(great, Term("o"))))
+            self.raises("TooMany", [24], lambda: Book(good, Rule(Term("o"), shared("p", many, Term("o")))))
+            self.raises("TooMany", [24], lambda: book.with_rule(Rule(Term("f", great), Term("X"))))
+            self.raises("TooMany", [24], lambda: book + Rule(Term.read("f(X)"), great))
+            self.raises("InvalidRule", [1], Book, good, great)
+            self.raises("InvalidRule", [2], book.with_rule, great)
 
     def test_order_of_errors(self):
         same = [rule("one(X) -> X")] * 25

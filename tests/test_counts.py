@@ -2,6 +2,7 @@
 
 import random
 import unittest
+from unittest import mock
 
 from remainways.books import Book
 from remainways.counts import lot_dues, lot_steps, size_after, times_of
@@ -80,6 +81,16 @@ class CountsTest(Case):
         self.assert_equal(lot_dues(book, term, lot), (90, 2 ** 90 - 1))
         self.assert_equal(times_of(book, term, lot[89], lot[:89]), 2 ** 89)
         self.assert_equal(times_of(book, term, lot[89], lot), 0)
+
+    def test_no_len_is_asked_of_terms(self):
+        # A list of as many items as a term has places is made for each len.
+        book, term = BOOKS[2], nested("two", 90, Term("o"))
+        lot = step_places(book, term)
+        with mock.patch.object(Term, "__len__", side_effect=AssertionError):
+            self.assert_equal(size_after(book, term, lot), 2 ** 91 - 1)
+            self.assert_equal(size_after(book, term, lot[80:]), 80 + 2 ** 11 - 1)
+            self.raises("TooGreat", [], done, book, term, lot)
+            self.assertEqual(done(book, term, lot[88:]).levels, 91)
 
     def test_great_dues(self):
         due = 10 ** 30 - 1

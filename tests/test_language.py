@@ -153,6 +153,14 @@ class NodesTest(unittest.TestCase):
                 elif isinstance(node, ast.Call):
                     self.assertTrue(node.func.attr in own or node.func.attr in BUILTIN_METHODS, node.func.attr)
 
+    def test_len_is_no_len_of_a_range(self):
+        for path in FILES:
+            for node in ast.walk(tree_of(path)):
+                if isinstance(node, ast.FunctionDef) and node.name == "__len__":
+                    for told in [told.value for told in ast.walk(node) if isinstance(told, ast.Return)]:
+                        self.assertEqual([told.func.id, len(told.args)], ["len", 1])
+                        self.assertNotEqual(getattr(getattr(told.args[0], "func", None), "id", ""), "range")
+
     def test_builtins_have_no_other_meaning(self):
         for path in FILES:
             tree = tree_of(path)

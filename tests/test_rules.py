@@ -1,10 +1,11 @@
 """Rules: sides, dues, the errors of the constructor."""
 
 import unittest
+from unittest import mock
 
 from remainways.rules import Rule
 from remainways.terms import Term
-from tests.helper import ANY_VALUES, BOOKS, Case, nested, right_places, sized
+from tests.helper import ANY_VALUES, BOOKS, Case, nested, right_places, shared, sized
 
 GREATEST = 10 ** 30 - 1
 
@@ -49,11 +50,25 @@ class MakeTest(Case):
         self.raises("TooMany", [24], Rule, Term("o"), nested("t", 1500, Term("o")))
 
     def test_sides_without_bound(self):
-        great = Term("p", Term("X"), Term("X"))
-        for _ in range(2000):
-            great = Term("p", great, great)
-        self.raises("TooMany", [24], Rule, great, Term("o"))
-        self.raises("TooMany", [24], Rule, Term("o"), great)
+        for many in (24, 39, 40, 60, 90, 2000):
+            for inside in (Term("X"), Term("o")):
+                great = shared("p", many, inside)
+                self.raises("TooMany", [24], Rule, great, Term("o"))
+                self.raises("TooMany", [24], Rule, Term("o"), great)
+                self.raises("TooMany", [24], Rule, great, great)
+                self.raises("TooMany", [24], Rule, Term("f", great), Term("X"), due=-1)
+
+    def test_sides_without_bound_are_judged_by_their_kind_first(self):
+        great = shared("p", 40, Term("o"))
+        self.raises("InvalidSide", ["left"], Rule, Term("f", great, Term("_")), great)
+        self.raises("InvalidSide", ["right"], Rule, great, shared("p", 40, Term("_")))
+
+    def test_no_len_is_asked_of_sides(self):
+        # A list of as many items as a term has places is made for each len.
+        with mock.patch.object(Term, "__len__", side_effect=AssertionError):
+            self.assertEqual(rule("f(X,g(Y))", "h(Y)").due, 1)
+            self.raises("TooMany", [24], Rule, shared("p", 40, Term("X")), Term("o"))
+            self.raises("TooMany", [24], Rule, Term("o"), shared("p", 59, Term("o")))
 
     def test_holes_twice(self):
         self.raises("TwiceHole", ["X"], rule, "f(X,X)", "o")

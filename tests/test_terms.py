@@ -7,7 +7,7 @@ import unittest
 from remainways.errors import WorkError
 from remainways.places import is_place
 from remainways.terms import Term
-from tests.helper import ANY_VALUES, BOOKS, Case, nested, places_by_words, random_term, sized
+from tests.helper import ANY_VALUES, BOOKS, Case, nested, places_by_words, random_term, shared, sized
 
 TEXTS = (
     "o", "X", "_", "abcdefgh", "WXYZ", "add(s(X),Y)", "f(_,X,o,g(_))", "pair(pair(a,b),pair(c,d))",
@@ -23,10 +23,7 @@ def dice_terms(many, seed):
 
 def doubled(many):
     """A term with 2 ** (many + 1) - 1 places, put together of shared parts."""
-    term = Term("o")
-    for _ in range(many):
-        term = Term("p", term, term)
-    return term
+    return shared("p", many, Term("o"))
 
 
 class MakeTest(Case):
@@ -264,6 +261,25 @@ class WithoutBoundTest(Case):
             self.assertEqual(term.holes(), [])
             self.assertEqual(term & doubled(many), term)
             self.assertEqual((term & term.with_sub((2,), Term("o"))).sub((2,)).text(), "_")
+
+    def test_sizes(self):
+        for many in (1, 2, 5, 24, 25, 2000, 2001, 5461, 100000, 123456, 524287):
+            term = sized(many)
+            self.assert_equal([len(term), term.size(), bool(term)], [many, many, True])
+
+    def test_sizes_of_four_arguments_each(self):
+        term, many = Term("o"), 1
+        for _ in range(9):
+            term, many = Term("f", term, term, term, term), 4 * many + 1
+            self.assert_equal([len(term), term.size(), bool(term)], [many, many, True])
+        self.assertEqual(many, 349525)
+
+    def test_sizes_that_are_told_without_len(self):
+        for many in (20, 40, 58):
+            self.assert_equal(doubled(many).size(), 2 ** (many + 1) - 1)
+        # Beyond that, a size is just great.
+        for many in (60, 90, 2000):
+            self.assert_equal(doubled(many).size(), 10 ** 18)
 
     def test_sizes_up_to_a_million(self):
         self.assertEqual(len(doubled(18)), 2 ** 19 - 1)
