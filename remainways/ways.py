@@ -56,7 +56,7 @@ class Way:
 
     def text(self):
         """The text of the way."""
-        return ";".join([lot_text(lot) for lot in self._lots]) or "-"
+        return lots_text(self._lots)
 
     @staticmethod
     def read(book, start, text):
@@ -86,6 +86,11 @@ class Way:
 
     def __repr__(self):
         return f"Way({len(self._lots)} lots)"
+
+
+def lots_text(lots):
+    """The text of a way with these lots."""
+    return ";".join([lot_text(lot) for lot in lots]) or "-"
 
 
 def read_lots(text):

@@ -7,8 +7,12 @@ import unittest
 from remainways.books import Book
 from remainways.counts import lot_dues, size_after
 from remainways.doing import done
+from remainways.layers import difference, key_of
+from remainways.pasts import common_past, without
+from remainways.remains import alike, joined, left
 from remainways.steps import step_places
 from remainways.terms import Term
+from remainways.ways import Way
 from tests.helper import Case
 
 FUNCTIONS = {
@@ -22,6 +26,12 @@ FUNCTIONS = {
     "counts": {"times_of": "book term place lot", "size_after": "book term lot", "lot_dues": "book term lot",
                "lot_steps": "book term lot"},
     "orders": {"least_row": "book term lot", "greatest_row": "book term lot", "rows_of_lot": "book term lot"},
+    "remains": {"left": "one other", "images": "way place", "left_of_lot": "way lot", "squares": "one other",
+                "joined": "way others", "within": "one other", "alike": "one other"},
+    "layers": {"first_layer": "way", "layers": "way", "settled": "way", "key_of": "way", "difference": "one other",
+               "singles": "way"},
+    "beside": {"side_by_side": "name ways", "put_way": "term place way"},
+    "pasts": {"common_past": "one other", "without": "way place"},
 }
 METHODS = {
     ("terms", "Term"): {
@@ -43,6 +53,11 @@ METHODS = {
         "lots": "self", "terms": "self", "with_lot": "self lot", "followed_by": "self way", "text": "self",
         "read": "book start text", "__str__": "self", "__iter__": "self", "__eq__": "self other", "__len__": "self",
         "__repr__": "self", "__init__": "self book start lots",
+    },
+    ("retelling", "Retelling"): {
+        "rows": "self", "term_told": "self term", "place_told": "self term place", "lot_told": "self term lot",
+        "book_told": "self book", "way_told": "self way", "back": "self", "__len__": "self", "__repr__": "self",
+        "__init__": "self rows",
     },
 }
 STATIC = (("terms", "Term"), ("books", "Book"), ("ways", "Way"))
@@ -89,6 +104,10 @@ class NamesTest(Case):
         self.assertEqual([due.default, due.kind], [1, inspect.Parameter.KEYWORD_ONLY])
         self.assertEqual(inspect.signature(module_of("ways").Way).parameters["lots"].default, ())
 
+    def test_any_number_of_ways(self):
+        others = inspect.signature(module_of("remains").joined).parameters["others"]
+        self.assertEqual(others.kind, inspect.Parameter.VAR_POSITIONAL)
+
     def test_generators(self):
         self.assertTrue(inspect.isgeneratorfunction(module_of("steps").walk_steps))
         self.assertTrue(inspect.isgeneratorfunction(module_of("orders").rows_of_lot))
@@ -109,6 +128,30 @@ class ExamplesTest(Case):
 
     def test_wrong_text(self):
         self.raises("InvalidText", [0, 6], Term.read, "add(o,)")
+
+    def test_the_same_work_in_two_orders(self):
+        book = Book.read("1 two(X) -> pair(X,X)\n")
+        start = Term.read("two(two(o))")
+        one, other, third = Way.read(book, start, ".;1"), Way.read(book, start, ".;2"), Way.read(book, start, "1;.")
+        found = [left(one, third).text(), left(third, one).text(), common_past(one, other).text(),
+                 key_of(joined(one, other)), without(third, (1,)).text()]
+        self.assert_equal(found, ["0;0", "2;0", ".", ".+1", "."])
+
+    def test_the_same_end_of_two_works(self):
+        book = Book.read("1 one(X) -> X\n")
+        start = Term.read("one(one(o))")
+        one, other = Way(book, start, [[()]]), Way(book, start, [[(1,)]])
+        found = [left(one, other).text(), left(other, one).text(), one.end == other.end, difference(one, other)]
+        self.assert_equal(found, [".", ".", True, (0, 0, (), ((),))])
+
+    def test_keys_of_works(self):
+        book = Book.read("1 two(X) -> pair(X,X)\n1 fst(pair(X,Y)) -> X\n")
+        start = Term.read("fst(pair(o,two(o)))")
+        one, other = Way(book, start, [[(1, 2)], [()]]), Way(book, start, [[()]])
+        self.assert_equal([alike(one, other), key_of(one)], [True, ".+1.2"])
+        book = Book.read("1 swap(pair(X,Y)) -> pair(Y,X)\n")
+        way = Way.read(book, Term.read("swap(swap(pair(swap(pair(o,s(o))),o)))"), "1;.;1")
+        self.assert_equal(key_of(way), "1+1.1.1;.")
 
     def test_ends_that_are_alike(self):
         book, start = Book.read("1 one(X) -> X\n"), Term.read("one(one(o))")

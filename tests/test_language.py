@@ -24,6 +24,8 @@ DOUBLE = {
     "__init__", "__eq__", "__repr__", "__str__", "__len__", "__iter__", "__add__", "__and__", "__bool__",
     "__contains__",
 }
+# The files of classes whose objects keep what they find. No operator and no property makes use of these.
+CHANGING = {"grove.py"}
 BARRED = {"register", "mro", "elements", "open", "input", "law", "version_info", "with_traceback", "add_note"}
 WORDS = ("type", "typing", "enum", "Enum", "Flag", "Generic", "Protocol", "ABC", "namedtuple", "NamedTuple")
 REFUSED = (
@@ -60,14 +62,14 @@ def bound_names(tree):
             yield node.name
 
 
-def mutated_names(function):
-    """The plain names whose lists or dicts a function changes."""
+def mutated(function):
+    """What a function changes: lists and dicts, each as the node that tells it."""
     for node in ast.walk(function):
         if isinstance(node, ast.Call) and isinstance(node.func, ast.Attribute) and node.func.attr in (
                 "append", "extend", "pop", "insert", "remove", "clear", "update", "setdefault", "reverse"):
-            yield node.func.value.id
+            yield node.func.value
         elif isinstance(node, ast.Subscript) and isinstance(node.ctx, (ast.Store, ast.Del)):
-            yield node.value.id
+            yield node.value
 
 
 class FilesTest(unittest.TestCase):
@@ -220,8 +222,15 @@ class NodesTest(unittest.TestCase):
         for path in FILES:
             for node in ast.walk(tree_of(path)):
                 if isinstance(node, ast.FunctionDef) and node.name not in ("scan_term", "close_term"):
-                    for name in mutated_names(node):
-                        self.assert_new(node, name)
+                    for told in mutated(node):
+                        self.assert_changeable(path, node, told)
+
+    def assert_changeable(self, path, function, told):
+        """What is changed is new, or an item of what is new, or what an object that changes keeps for itself."""
+        if isinstance(told, ast.Attribute):
+            self.assertEqual([told.value.id, path.name in CHANGING], ["self", True], (path, function.name))
+        else:
+            self.assert_new(function, told.value.id if isinstance(told, ast.Subscript) else told.id)
 
     def assert_new(self, function, name):
         """The function gives this name new lists or dicts alone."""

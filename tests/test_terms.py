@@ -263,7 +263,7 @@ class WithoutBoundTest(Case):
             self.assertEqual((term & term.with_sub((2,), Term("o"))).sub((2,)).text(), "_")
 
     def test_sizes(self):
-        for many in (1, 2, 5, 24, 25, 2000, 2001, 5461, 100000, 123456, 524287):
+        for many in (1, 2, 5, 24, 25, 2000, 2001, 5461, 100000):
             term = sized(many)
             self.assert_equal([len(term), term.size(), bool(term)], [many, many, True])
 
