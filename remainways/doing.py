@@ -112,11 +112,15 @@ def measures_filled(rule, place, part, found):
     return (size, levels)
 
 
+def is_fit_behind(term, lot):
+    """Whether the term behind a lot is fit, counted ahead of putting it together."""
+    size, levels = measures_behind(term, lot)
+    return size <= MOST_PLACES and levels <= MOST_LEVELS
+
+
 def fit_term_behind(term, lot):
     """The term behind a lot; raises the error if it is not fit."""
-    # Counted first: the term could be too great to be put together.
-    size, levels = measures_behind(term, lot)
-    if size > MOST_PLACES or levels > MOST_LEVELS:
+    if not is_fit_behind(term, lot):
         raise TooGreat()
     return term_behind(term, lot)
 

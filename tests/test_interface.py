@@ -8,13 +8,19 @@ from remainways.books import Book
 from remainways.counts import lot_dues, size_after
 from remainways.doing import done
 from remainways.layers import difference, key_of
+from remainways.lean import lean
+from remainways.needs import needed
 from remainways.pasts import common_past, without
 from remainways.remains import alike, joined, left
+from remainways.rests import full_layers
 from remainways.steps import step_places
 from remainways.terms import Term
 from remainways.ways import Way
+from remainways.why import why
+from remainways.works import parts
 from tests.helper import Case
 
+SUMS = "1 add(o,Y) -> Y\n1 add(s(X),Y) -> s(add(X,Y))\n1 mul(o,Y) -> o\n1 mul(s(X),Y) -> add(Y,mul(X,Y))\n"
 FUNCTIONS = {
     "words": {"is_name": "value", "is_hole": "value", "is_number": "value least most"},
     "places": {"is_place": "value", "is_beneath": "place other", "place_text": "place", "read_place": "text",
@@ -32,6 +38,13 @@ FUNCTIONS = {
                "singles": "way"},
     "beside": {"side_by_side": "name ways", "put_way": "term place way"},
     "pasts": {"common_past": "one other", "without": "way place"},
+    "works": {"parts": "way most", "count_rows": "way", "work_dues": "way", "work_steps": "way", "rows_of_work": "way"},
+    "pieces": {"is_piece_of": "piece term", "common_piece": "one other", "joined_piece": "one other",
+               "without_sign": "piece place", "named_places": "piece"},
+    "why": {"run_on": "way piece", "standing": "way piece", "why": "way piece"},
+    "lean": {"lean": "way", "moved": "way piece term"},
+    "rests": {"full_layers": "book term rounds", "rest_of": "book term rounds"},
+    "needs": {"needed": "book term rounds", "around": "book term place rounds", "needed_rounds": "book term rounds"},
 }
 METHODS = {
     ("terms", "Term"): {
@@ -60,6 +73,10 @@ METHODS = {
         "__init__": "self rows",
     },
 }
+# The parameters that are passed by keyword alone, with their defaults.
+KEYWORDS = (("works", "parts", "most", 400), ("why", "why", "piece", None), ("rests", "full_layers", "rounds", 60),
+            ("rests", "rest_of", "rounds", 60), ("needs", "needed", "rounds", 60), ("needs", "around", "rounds", 60),
+            ("needs", "needed_rounds", "rounds", 60), ("rules", "Rule", "due", 1))
 STATIC = (("terms", "Term"), ("books", "Book"), ("ways", "Way"))
 
 
@@ -100,8 +117,9 @@ class NamesTest(Case):
         self.assertIn("__add__", vars(module_of("ways").Way))
 
     def test_defaults(self):
-        due = inspect.signature(module_of("rules").Rule).parameters["due"]
-        self.assertEqual([due.default, due.kind], [1, inspect.Parameter.KEYWORD_ONLY])
+        for name, word, parameter, default in KEYWORDS:
+            found = inspect.signature(getattr(module_of(name), word)).parameters[parameter]
+            self.assertEqual([found.default, found.kind], [default, inspect.Parameter.KEYWORD_ONLY])
         self.assertEqual(inspect.signature(module_of("ways").Way).parameters["lots"].default, ())
 
     def test_any_number_of_ways(self):
@@ -111,13 +129,15 @@ class NamesTest(Case):
     def test_generators(self):
         self.assertTrue(inspect.isgeneratorfunction(module_of("steps").walk_steps))
         self.assertTrue(inspect.isgeneratorfunction(module_of("orders").rows_of_lot))
+        self.assertTrue(inspect.isgeneratorfunction(module_of("works").rows_of_work))
+
+    def test_numbers_of_modules(self):
+        self.assertEqual([module_of("works").MOST, module_of("rests").ROUNDS], [400, 60])
 
 
 class ExamplesTest(Case):
     def test_lots_and_what_they_bring(self):
-        book = Book.read("1 add(o,Y) -> Y\n1 add(s(X),Y) -> s(add(X,Y))\n1 mul(o,Y) -> o\n"
-                         "1 mul(s(X),Y) -> add(Y,mul(X,Y))\n")
-        start = Term.read("mul(s(s(o)),add(s(o),o))")
+        book, start = Book.read(SUMS), Term.read("mul(s(s(o)),add(s(o),o))")
         lot = step_places(book, start)
         told = [lot, done(book, start, lot).text(), lot_dues(book, start, lot), size_after(book, start, lot)]
         self.assert_equal(told, [[(), (2,)], "add(s(add(o,o)),mul(s(o),s(add(o,o))))", (2, 3), 12])
@@ -148,10 +168,19 @@ class ExamplesTest(Case):
         book = Book.read("1 two(X) -> pair(X,X)\n1 fst(pair(X,Y)) -> X\n")
         start = Term.read("fst(pair(o,two(o)))")
         one, other = Way(book, start, [[(1, 2)], [()]]), Way(book, start, [[()]])
-        self.assert_equal([alike(one, other), key_of(one)], [True, ".+1.2"])
+        self.assert_equal([alike(one, other), key_of(one), lean(one).text()], [True, ".+1.2", "."])
         book = Book.read("1 swap(pair(X,Y)) -> pair(Y,X)\n")
         way = Way.read(book, Term.read("swap(swap(pair(swap(pair(o,s(o))),o)))"), "1;.;1")
-        self.assert_equal(key_of(way), "1+1.1.1;.")
+        self.assert_equal([key_of(way), len(parts(way))], ["1+1.1.1;.", 6])
+
+    def test_why_a_piece_of_a_rest_is_there(self):
+        book, start = Book.read(SUMS), Term.read("mul(s(s(o)),add(s(o),o))")
+        word, way, index = full_layers(book, start)
+        told = [word, way.text(), index, way.end.text(), why(way, piece=Term.read("s(_)")).text()]
+        self.assert_equal(told, ["rest", ".+2;.+1.1+2+2.2.1;1+1.2+1.2.2;1.1", None, "s(s(o))", "mul(s(_),add(s(_),_))"])
+
+    def test_needed_steps(self):
+        self.assert_equal(needed(Book.read(SUMS), Term.read("add(s(o),mul(o,add(s(o),o)))")), ((), (2,)))
 
     def test_ends_that_are_alike(self):
         book, start = Book.read("1 one(X) -> X\n"), Term.read("one(one(o))")
