@@ -91,7 +91,8 @@ class Grove:
         met = {lot: True}
         waiting = [lot]
         while waiting:
-            for part in self._parts[waiting.pop()]:
+            tree = waiting.pop()
+            for part in self._parts[tree]:
                 if part not in met:
                     met[part] = True
                     waiting.append(part)

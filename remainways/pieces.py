@@ -37,7 +37,7 @@ def joined_piece(one, other):
     waiting = [(one, other)]
     while waiting:
         first, second = waiting[-1]
-        pairs = named_pairs(first, second)
+        pairs = list(zip(first.parts(), second.parts()))
         ahead = [pair for pair in pairs if (pair[0].mark, pair[1].mark) not in made]
         if ahead:
             waiting.extend(ahead)
@@ -70,15 +70,9 @@ def first_clash(one, other):
             met[pair] = True
             if first.sign() is not None and second.sign() is not None and first.sign() != second.sign():
                 return place
-            pairs = named_pairs(first, second)
+            # A blank has no parts.
+            pairs = list(zip(first.parts(), second.parts()))
             for number in range(len(pairs), 0, -1):
                 inner, beside = pairs[number - 1]
                 waiting.append((place + (number,), inner, beside))
     return None
-
-
-def named_pairs(one, other):
-    """The list of the pairs of the parts of two pieces, if both have a name at the top."""
-    if one.sign() is None or other.sign() is None:
-        return []
-    return list(zip(one.parts(), other.parts()))

@@ -158,6 +158,23 @@ class GreatTest(Case):
         self.assert_equal(difference(one, third), (1, 0, (2, 1), ((2, 1),)))
         self.assert_equal(difference(third, one), (1, 0, (2, 2), ((2, 2),)))
 
+    def test_layers_of_very_many_places(self):
+        # The second layer has 2**many places, all of them struck, and is not gone through place by place.
+        book = Book.read("1 two(X) -> pair(X,X)\n1 c -> k\n1 h(k,X) -> o\n1 u -> n\n1 n -> o\n")
+        for many, told in ((7, True), (10, True), (13, False), (40, False), (90, False)):
+            way = Way.read(book, Term("h", Term("c"), nested("two", many, Term("u"))), "1;.")
+            layer = ((1,),) + tuple((2,) + (1,) * at for at in range(many + 1))
+            self.assert_equal(first_layer(way), layer)
+            begun = Way(book, way.start, [[(1,)]])
+            self.assertEqual([alike(way, begun), within(begun, way)], [False, True])
+            self.assert_equal(difference(way, begun), (0, 0, (2,), ((2,),)))
+            if told:
+                self.assertEqual([len(lot) for lot in layers(way)], [many + 2, 1 + 2 ** many])
+                self.assertEqual(key_of(way), key_by_words(layers(way)))
+            else:
+                for call in (layers, settled, key_of):
+                    self.raises("TooGreat", [], call, way)
+
     def test_many_levels(self):
         # The struck part has more than 1000 levels in between.
         text = "w(" * 20 + "X" + ")" * 20
