@@ -162,7 +162,7 @@ class Grove:
         for lot in lots:
             rest = lot
             row = []
-            for other in across:
+            for other in list(across):
                 row.append(self.left_of(other, rest))
                 rest = self.left_of(rest, other)
             across = row

@@ -37,7 +37,7 @@ def squares(one, other):
     for term, tree in zip(one.terms()[1:], lot_trees(grove, one)):
         down = [tree]
         across = []
-        for step in acrosses[-1]:
+        for step in list(acrosses[-1]):
             across.append(grove.left_of(step, down[-1]))
             down.append(grove.left_of(down[-1], step))
         lots = [lot_of_tree(grove, step) for step in down]

@@ -72,6 +72,29 @@ def mutated(function):
             yield node.value
 
 
+def aliases(function, name):
+    """All names of a function that may mean the same list as this one: one was given to the other."""
+    pairs = []
+    for node in ast.walk(function):
+        if isinstance(node, ast.Assign) and isinstance(node.value, ast.Name):
+            pairs += [{target.id, node.value.id} for target in node.targets if isinstance(target, ast.Name)]
+    found = {name}
+    for _ in pairs:
+        found = found.union(*[pair for pair in pairs if pair & found])
+    return found
+
+
+def walked(loop):
+    """The names of the lists and dicts that a loop walks itself."""
+    head = loop.iter
+    while isinstance(head, ast.Call) and isinstance(head.func, ast.Attribute) and head.func.attr in ("items", "keys", "values"):
+        head = head.func.value
+    heads = [head]
+    if isinstance(head, ast.Call) and isinstance(head.func, ast.Name) and head.func.id in ("enumerate", "zip", "reversed"):
+        heads = head.args
+    return [node.id for node in heads if isinstance(node, ast.Name)]
+
+
 class FilesTest(unittest.TestCase):
     def test_the_folder_has_files_of_the_language_alone(self):
         self.assertGreater(len(FILES), 10)
@@ -216,6 +239,15 @@ class NodesTest(unittest.TestCase):
             self.assertLessEqual({node.id for node in item.decorator_list}, {"property", "staticmethod"})
         else:
             self.assertTrue(isinstance(item, ast.Expr) and isinstance(item.value, ast.Constant))
+
+    def test_what_a_loop_walks_is_not_changed_in_it(self):
+        for path in FILES:
+            for function in ast.walk(tree_of(path)):
+                if isinstance(function, ast.FunctionDef):
+                    for loop in [node for node in ast.walk(function) if isinstance(node, ast.For)]:
+                        changed = {told.id for told in mutated(loop) if isinstance(told, ast.Name)}
+                        for name in walked(loop):
+                            self.assertEqual(aliases(function, name) & changed, set(), (path.name, function.name))
 
     def test_lists_and_dicts_that_are_changed_are_new(self):
         # The readers of texts hand their lists on; no operator and no property reads texts.
