@@ -7,8 +7,10 @@ import unittest
 from remainways.books import Book
 from remainways.counts import lot_dues, size_after
 from remainways.doing import done
+from remainways.gaps import gaps
 from remainways.layers import difference, key_of
 from remainways.lean import lean
+from remainways.looks import tree
 from remainways.needs import needed
 from remainways.pasts import common_past, without
 from remainways.remains import alike, joined, left
@@ -45,6 +47,10 @@ FUNCTIONS = {
     "lean": {"lean": "way", "moved": "way piece term"},
     "rests": {"full_layers": "book term rounds", "rest_of": "book term rounds"},
     "needs": {"needed": "book term rounds", "around": "book term place rounds", "needed_rounds": "book term rounds"},
+    "weblayers": {"web_steps": "book web", "web_layer": "book web", "web_rest": "book web rounds"},
+    "looks": {"doers": "book", "check_split": "book", "tree": "book doer", "stuck": "book doer"},
+    "gaps": {"gaps": "book doer makers"},
+    "nextlook": {"next_place": "book term", "is_blocked": "book term", "by_looks": "book term most"},
 }
 METHODS = {
     ("terms", "Term"): {
@@ -72,12 +78,17 @@ METHODS = {
         "book_told": "self book", "way_told": "self way", "back": "self", "__len__": "self", "__repr__": "self",
         "__init__": "self rows",
     },
+    ("webs", "Web"): {
+        "of": "term", "knots": "self", "size": "self", "count_of": "self name", "sub": "self place", "told": "self",
+        "__eq__": "self other", "__len__": "self", "__repr__": "self", "__init__": "self knots",
+    },
 }
 # The parameters that are passed by keyword alone, with their defaults.
 KEYWORDS = (("works", "parts", "most", 400), ("why", "why", "piece", None), ("rests", "full_layers", "rounds", 60),
             ("rests", "rest_of", "rounds", 60), ("needs", "needed", "rounds", 60), ("needs", "around", "rounds", 60),
-            ("needs", "needed_rounds", "rounds", 60), ("rules", "Rule", "due", 1))
-STATIC = (("terms", "Term"), ("books", "Book"), ("ways", "Way"))
+            ("needs", "needed_rounds", "rounds", 60), ("rules", "Rule", "due", 1),
+            ("weblayers", "web_rest", "rounds", 60), ("nextlook", "by_looks", "most", 200))
+STATIC = (("terms", "Term", "read"), ("books", "Book", "read"), ("ways", "Way", "read"), ("webs", "Web", "of"))
 
 
 def module_of(name):
@@ -106,8 +117,8 @@ class NamesTest(Case):
                 self.assertEqual(words_of(getattr(found, method)), words)
 
     def test_static_methods_and_properties(self):
-        for name, word in STATIC:
-            self.assertIsInstance(vars(getattr(module_of(name), word))["read"], staticmethod)
+        for name, word, method in STATIC:
+            self.assertIsInstance(vars(getattr(module_of(name), word))[method], staticmethod)
         self.assertIsInstance(vars(module_of("terms").Term)["levels"], property)
         self.assertIsInstance(vars(module_of("ways").Way)["end"], property)
 
@@ -133,6 +144,7 @@ class NamesTest(Case):
 
     def test_numbers_of_modules(self):
         self.assertEqual([module_of("works").MOST, module_of("rests").ROUNDS], [400, 60])
+        self.assertEqual(module_of("weblayers").ROUNDS, 60)
 
 
 class ExamplesTest(Case):
@@ -181,6 +193,13 @@ class ExamplesTest(Case):
 
     def test_needed_steps(self):
         self.assert_equal(needed(Book.read(SUMS), Term.read("add(s(o),mul(o,add(s(o),o)))")), ((), (2,)))
+
+    def test_first_looks(self):
+        book = Book.read(SUMS)
+        holes = gaps(book, ("add", 2), [("o", 0), ("t", 0)])
+        told = [tree(book, ("add", 2)), len(holes), holes[0].text()]
+        wanted = ("look", (1,), ((("o", 0), ("rule", 0)), (("s", 1), ("rule", 1))))
+        self.assert_equal(told, [wanted, 1, "add(t,_)"])
 
     def test_ends_that_are_alike(self):
         book, start = Book.read("1 one(X) -> X\n"), Term.read("one(one(o))")
