@@ -31,20 +31,12 @@ def squares(one, other):
     """The tuple (corners, downs, acrosses) of the squares of two ways."""
     check_starts(one, other)
     grove = Grove(one.book)
-    downs = []
+    downs, acrosses = square_trees(grove, one, other)
     corners = [other.terms()]
-    acrosses = [lot_trees(grove, other)]
-    for term, tree in zip(one.terms()[1:], lot_trees(grove, one)):
-        down = [tree]
-        across = []
-        for step in list(acrosses[-1]):
-            across.append(grove.left_of(step, down[-1]))
-            down.append(grove.left_of(down[-1], step))
-        lots = [lot_of_tree(grove, step) for step in down]
-        corners.append([term] + [corner_below(one.book, above, lot) for above, lot in zip(corners[-1][1:], lots[1:])])
-        downs.append(lots)
-        acrosses.append(across)
-    return corners, downs, [[lot_of_tree(grove, item) for item in row] for row in acrosses]
+    for term, row in zip(one.terms()[1:], downs):
+        pairs = list(zip(corners[-1][1:], row[1:]))
+        corners.append([term] + [corner_below(one.book, above, lot_of_tree(grove, tree)) for above, tree in pairs])
+    return corners, lots_of_rows(grove, downs), lots_of_rows(grove, acrosses)
 
 
 def joined(way, *others):
@@ -89,6 +81,26 @@ def images_of(places, way):
     for tree in lot_trees(grove, way):
         found = grove.left_of(found, tree)
     return lot_of_tree(grove, found)
+
+
+def square_trees(grove, one, other):
+    """The pair of the lots down and the lots across of the squares of two ways, both as lists of lists of trees."""
+    downs = []
+    acrosses = [lot_trees(grove, other)]
+    for tree in lot_trees(grove, one):
+        down = [tree]
+        across = []
+        for step in list(acrosses[-1]):
+            across.append(grove.left_of(step, down[-1]))
+            down.append(grove.left_of(down[-1], step))
+        downs.append(down)
+        acrosses.append(across)
+    return downs, acrosses
+
+
+def lots_of_rows(grove, rows):
+    """Lists of lists of trees as lots."""
+    return [[lot_of_tree(grove, tree) for tree in row] for row in rows]
 
 
 def corner_below(book, term, lot):

@@ -22,15 +22,15 @@ BUILTIN_METHODS = {
 }
 DOUBLE = {
     "__init__", "__eq__", "__repr__", "__str__", "__len__", "__iter__", "__add__", "__and__", "__bool__",
-    "__contains__",
+    "__contains__", "__call__",
 }
 # The files of classes whose objects keep what they find. No operator and no property makes use of these.
-CHANGING = {"grove.py", "trails.py"}
+CHANGING = {"grove.py", "trails.py", "bench.py"}
 BARRED = {"register", "mro", "elements", "open", "input", "law", "version_info", "with_traceback", "add_note"}
 WORDS = ("type", "typing", "enum", "Enum", "Flag", "Generic", "Protocol", "ABC", "namedtuple", "NamedTuple")
 REFUSED = (
     ast.Global, ast.AsyncFunctionDef, ast.Await, ast.AsyncFor, ast.AsyncWith, ast.Lambda, ast.GeneratorExp, ast.AugAssign,
-    ast.AnnAssign, ast.Try, ast.Import,
+    ast.AnnAssign, ast.Import,
 )
 
 
@@ -169,6 +169,27 @@ class NodesTest(unittest.TestCase):
         """Whether a parameter has one."""
         return any(node.annotation for node in ast.walk(function.args) if isinstance(node, ast.arg))
 
+    def test_errors_that_are_caught_are_own_ones(self):
+        own = {node.name for node in tree_of(FOLDER / "errors.py").body if isinstance(node, ast.ClassDef)}
+        for path in FILES:
+            for node in ast.walk(tree_of(path)):
+                if isinstance(node, ast.ExceptHandler):
+                    caught = node.type.elts if isinstance(node.type, ast.Tuple) else [node.type]
+                    self.assertLessEqual({told.id for told in caught}, own)
+                elif isinstance(node, ast.Try):
+                    for row in node.finalbody:
+                        self.assert_simple(row)
+
+    def assert_simple(self, row):
+        """What stands in a finally assigns names and constants, also under a question for None."""
+        if isinstance(row, ast.If):
+            self.assertIsInstance(row.test.ops[0], (ast.Is, ast.IsNot))
+            for inner in row.body + row.orelse:
+                self.assert_simple(inner)
+        else:
+            self.assertIsInstance(row, ast.Assign)
+            self.assertIsInstance(row.value, (ast.Name, ast.Constant))
+
     def test_calls(self):
         own = own_names()
         for path in FILES:
@@ -236,7 +257,8 @@ class NodesTest(unittest.TestCase):
         """What stands in a class is a docstring or a method of an allowed name."""
         if isinstance(item, ast.FunctionDef):
             self.assertTrue(not item.name.startswith("__") or item.name in DOUBLE, item.name)
-            self.assertLessEqual({node.id for node in item.decorator_list}, {"property", "staticmethod"})
+            words = {ast.unparse(node) for node in item.decorator_list}
+            self.assertLessEqual(words, {"property", "staticmethod", f"{item.name}.setter"})
         else:
             self.assertTrue(isinstance(item, ast.Expr) and isinstance(item.value, ast.Constant))
 
