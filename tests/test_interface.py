@@ -7,6 +7,8 @@ import unittest
 from remainways.books import Book
 from remainways.counts import lot_dues, size_after
 from remainways.doing import done
+from remainways.eventorders import count_orders, order_at
+from remainways.events import causes, chain_layers
 from remainways.gaps import gaps
 from remainways.layers import difference, key_of
 from remainways.lean import lean
@@ -16,6 +18,7 @@ from remainways.pasts import common_past, without
 from remainways.remains import alike, joined, left
 from remainways.rests import full_layers
 from remainways.steps import step_places
+from remainways.stores import Store
 from remainways.terms import Term
 from remainways.ways import Way
 from remainways.why import why
@@ -51,6 +54,11 @@ FUNCTIONS = {
     "looks": {"doers": "book", "check_split": "book", "tree": "book doer", "stuck": "book doer"},
     "gaps": {"gaps": "book doer makers"},
     "nextlook": {"next_place": "book term", "is_blocked": "book term", "by_looks": "book term most"},
+    "events": {"count_events": "way", "extent": "way part", "causes": "way event", "is_before": "way one other",
+               "part_of": "way events", "without_event": "way one other", "chain_layers": "way"},
+    "eventorders": {"count_orders": "way", "order_at": "way number", "number_of": "way order", "row_of": "way order"},
+    "papers": {"squares_paper": "one other", "why_paper": "way piece", "rest_paper": "book term rounds"},
+    "looker": {"first_wrong": "book value"},
 }
 METHODS = {
     ("terms", "Term"): {
@@ -82,13 +90,31 @@ METHODS = {
         "of": "term", "knots": "self", "size": "self", "count_of": "self name", "sub": "self place", "told": "self",
         "__eq__": "self other", "__len__": "self", "__repr__": "self", "__init__": "self knots",
     },
+    ("stores", "Store"): {
+        "hands": "self", "way_of": "self hand", "key_text": "self hand", "letters": "self", "laid": "self hand",
+        "has_letter": "self hand number", "do": "self hand lot", "take": "self hand number", "meet": "self hand other",
+        "branch": "self hand name", "take_out": "self hand place", "drop": "self hand", "post": "self ground lot",
+        "lacks": "self hand other", "common": "self hand other", "together": "self deeds", "twin": "self",
+        "__eq__": "self other", "__len__": "self", "__repr__": "self", "__init__": "self book start hands",
+    },
+    ("bench", "Bench"): {
+        "do": "self deeds", "undo": "self", "redo": "self", "history": "self", "journal": "self", "replay": "calls",
+        "tried": "self deeds", "books": "self", "stores": "self", "book_named": "self name", "store_named": "self name",
+        "set_rounds": "self rounds", "say": "self line", "__call__": "self line", "log": "self", "twin": "self",
+        "__eq__": "self other", "__len__": "self", "__repr__": "self", "__init__": "self",
+    },
 }
+# The parameters that take any number of arguments.
+STARRED = (("remains", "joined", "others"), ("terms", "Term", "parts"), ("books", "Book", "rules"), ("stores", "Store", "hands"),
+           ("stores", "Store.together", "deeds"), ("bench", "Bench.do", "deeds"), ("bench", "Bench.tried", "deeds"))
 # The parameters that are passed by keyword alone, with their defaults.
 KEYWORDS = (("works", "parts", "most", 400), ("why", "why", "piece", None), ("rests", "full_layers", "rounds", 60),
             ("rests", "rest_of", "rounds", 60), ("needs", "needed", "rounds", 60), ("needs", "around", "rounds", 60),
             ("needs", "needed_rounds", "rounds", 60), ("rules", "Rule", "due", 1),
-            ("weblayers", "web_rest", "rounds", 60), ("nextlook", "by_looks", "most", 200))
-STATIC = (("terms", "Term", "read"), ("books", "Book", "read"), ("ways", "Way", "read"), ("webs", "Web", "of"))
+            ("weblayers", "web_rest", "rounds", 60), ("nextlook", "by_looks", "most", 200),
+            ("papers", "rest_paper", "rounds", 60))
+STATIC = (("terms", "Term", "read"), ("books", "Book", "read"), ("ways", "Way", "read"), ("webs", "Web", "of"),
+          ("bench", "Bench", "replay"))
 
 
 def module_of(name):
@@ -121,11 +147,15 @@ class NamesTest(Case):
             self.assertIsInstance(vars(getattr(module_of(name), word))[method], staticmethod)
         self.assertIsInstance(vars(module_of("terms").Term)["levels"], property)
         self.assertIsInstance(vars(module_of("ways").Way)["end"], property)
+        self.assertIsInstance(vars(module_of("stores").Store)["busy"], property)
+        for word in ("rounds", "busy"):
+            self.assertIsInstance(vars(module_of("bench").Bench)[word], property)
 
     def test_operators_stand_in_their_classes(self):
         self.assertIn("__contains__", vars(module_of("terms").Term))
         self.assertIn("__add__", vars(module_of("books").Book))
         self.assertIn("__add__", vars(module_of("ways").Way))
+        self.assertIn("__contains__", vars(module_of("stores").Store))
 
     def test_defaults(self):
         for name, word, parameter, default in KEYWORDS:
@@ -133,9 +163,27 @@ class NamesTest(Case):
             self.assertEqual([found.default, found.kind], [default, inspect.Parameter.KEYWORD_ONLY])
         self.assertEqual(inspect.signature(module_of("ways").Way).parameters["lots"].default, ())
 
-    def test_any_number_of_ways(self):
-        others = inspect.signature(module_of("remains").joined).parameters["others"]
-        self.assertEqual(others.kind, inspect.Parameter.VAR_POSITIONAL)
+    def test_any_number_of_arguments(self):
+        kinds = {(name, word, parameter.name): parameter.kind for name, word, call in self.all_calls()
+                 for parameter in inspect.signature(call).parameters.values()}
+        starred = [key for key in kinds if kinds[key] == inspect.Parameter.VAR_POSITIONAL]
+        self.assertEqual(sorted(starred), sorted(STARRED))
+        keywords = [key for key in kinds if kinds[key] == inspect.Parameter.KEYWORD_ONLY]
+        self.assertEqual(sorted(keywords), sorted(row[:3] for row in KEYWORDS))
+        # All others may be passed by position and by name.
+        others = {kinds[key] for key in kinds if key not in starred + keywords}
+        self.assertEqual(others, {inspect.Parameter.POSITIONAL_OR_KEYWORD})
+
+    def all_calls(self):
+        """All functions, classes and methods, each with its module and its name."""
+        for name, functions in FUNCTIONS.items():
+            for word in functions:
+                yield name, word, getattr(module_of(name), word)
+        for (name, word), methods in METHODS.items():
+            yield name, word, getattr(module_of(name), word)
+            for method in methods:
+                if not method.startswith("__"):
+                    yield name, f"{word}.{method}", getattr(getattr(module_of(name), word), method)
 
     def test_generators(self):
         self.assertTrue(inspect.isgeneratorfunction(module_of("steps").walk_steps))
@@ -144,7 +192,7 @@ class NamesTest(Case):
 
     def test_numbers_of_modules(self):
         self.assertEqual([module_of("works").MOST, module_of("rests").ROUNDS], [400, 60])
-        self.assertEqual(module_of("weblayers").ROUNDS, 60)
+        self.assertEqual([module_of("weblayers").ROUNDS, module_of("papers").ROUNDS], [60, 60])
 
 
 class ExamplesTest(Case):
@@ -200,6 +248,19 @@ class ExamplesTest(Case):
         told = [tree(book, ("add", 2)), len(holes), holes[0].text()]
         wanted = ("look", (1,), ((("o", 0), ("rule", 0)), (("s", 1), ("rule", 1))))
         self.assert_equal(told, [wanted, 1, "add(t,_)"])
+
+    def test_events(self):
+        book = Book.read("1 swap(pair(X,Y)) -> pair(Y,X)\n")
+        way = Way.read(book, Term.read("swap(swap(pair(swap(pair(o,s(o))),o)))"), "1;.;1")
+        found = [key_of(way), len(parts(way)), causes(way, 1), causes(way, 2), chain_layers(way), count_orders(way), order_at(way, 2)]
+        self.assert_equal(found, ["1+1.1.1;.", 6, (0,), (), [(0, 2), (1,)], 3, (2, 0, 1)])
+
+    def test_stores(self):
+        store = Store(Book.read("1 two(X) -> pair(X,X)\n"), Term.read("two(two(o))"), "a", "b")
+        numbers = [store.do("a", [(1,)]), store.do("b", [()])]
+        taken = [store.take("a", 1), store.take("b", 0)]
+        found = [numbers, taken, store.key_text("a"), store.key_text("b"), store.letters()]
+        self.assert_equal(found, [[0, 1], [[1], [0]], ".+1", ".+1", [("-", ((1,),)), ("-", ((),))]])
 
     def test_ends_that_are_alike(self):
         book, start = Book.read("1 one(X) -> X\n"), Term.read("one(one(o))")
