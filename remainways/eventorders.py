@@ -60,16 +60,20 @@ def row_of(way, order):
 
 
 def before_each(way):
-    """The list of the causes of each event of a way, as numbers with a bit for each cause."""
+    """For each event of a way the list of the events that must be done ahead, as trail_of tells them."""
     check_even(way.book)
     return [before for sign, before in trail_of(way)]
 
 
 def counts_of(before):
-    """A dict from each closed set of events, as a number, to the number of orders of the events that are not in it.
+    """A dict from each closed set of events to the number of orders of the events that are not in it.
 
-    Raises the error if there are too many closed sets, which are as many as there are parts.
+    A set is a number with a bit for each event. Raises the error if there are too many, which are as many as there
+    are parts.
     """
+    # The sets of the first events of any order are closed.
+    if len(before) >= MOST:
+        raise TooMany(MOST)
     counts = {0: 0}
     found = [0]
     steps = []
@@ -90,23 +94,21 @@ def counts_of(before):
 
 
 def ready(before, done):
-    """The ascending list of the events that can be done next."""
-    return [event for event in range(len(before)) if is_ready(before, done, event)]
-
-
-def is_ready(before, done, event):
-    """Whether an event was not done and all its causes were."""
-    return not done >> event & 1 and before[event] | done == done
+    """The ascending list of the events that can be done next behind a set of them."""
+    return [event for event in range(len(before))
+            if not done >> event & 1 and all([done >> cause & 1 for cause in before[event]])]
 
 
 def check_order(before, value):
     """Raises the error for any value that is no order."""
     if not isinstance(value, (list, tuple)):
         raise NotRow(0)
-    done = 0
+    done = {}
     for at, event in enumerate(value):
-        if not is_number(event, 0, len(before) - 1) or not is_ready(before, done, event):
+        if not is_number(event, 0, len(before) - 1) or event in done:
             raise NotRow(at)
-        done = done | 1 << event
+        if [cause for cause in before[event] if cause not in done]:
+            raise NotRow(at)
+        done[event] = True
     if len(value) < len(before):
         raise NotRow(len(value))

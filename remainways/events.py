@@ -35,7 +35,7 @@ def causes(way, event):
     check_even(way.book)
     rows = trail_of(way)
     check_event(rows, event)
-    return tuple(events_in(rows[event][1]))
+    return tuple(causes_of(rows, event))
 
 
 def is_before(way, one, other):
@@ -44,7 +44,7 @@ def is_before(way, one, other):
     rows = trail_of(way)
     check_event(rows, one)
     check_event(rows, other)
-    return one in events_in(rows[other][1])
+    return one in causes_of(rows, other)
 
 
 def part_of(way, events):
@@ -55,9 +55,9 @@ def part_of(way, events):
         check_event(rows, event)
     chosen = {event: True for event in sorted(set(events))}
     for event in chosen:
-        for cause in events_in(rows[event][1]):
-            if cause not in chosen:
-                raise NotClosed(event, cause)
+        # All lesser events have their causes.
+        if [cause for cause in rows[event][1] if cause not in chosen]:
+            raise NotClosed(event, [cause for cause in causes_of(rows, event) if cause not in chosen][0])
     return part_with(way, rows, chosen)
 
 
@@ -67,7 +67,7 @@ def without_event(way, one, other):
     rows = trail_of(way)
     check_event(rows, one)
     check_event(rows, other)
-    chosen = {event: True for event in events_in(rows[other][1]) + [other]}
+    chosen = {event: True for event in causes_of(rows, other) + [other]}
     return None if one in chosen else part_with(way, rows, chosen)
 
 
@@ -91,9 +91,16 @@ def check_event(rows, value):
         raise UnknownEvent(value)
 
 
-def events_in(number):
-    """The ascending list of the events of which a number has the bits."""
-    return [event for event in range(number.bit_length()) if number >> event & 1]
+def causes_of(rows, event):
+    """The ascending list of the causes of an event."""
+    found = {}
+    waiting = list(rows[event][1])
+    while waiting:
+        cause = waiting.pop()
+        if cause not in found:
+            found[cause] = True
+            waiting.extend(rows[cause][1])
+    return sorted(found)
 
 
 def chains(rows):
@@ -101,7 +108,7 @@ def chains(rows):
     layers = []
     lengths = []
     for event, row in enumerate(rows):
-        length = 1 + max([lengths[cause] for cause in events_in(row[1])], default=-1)
+        length = 1 + max([lengths[cause] for cause in row[1]], default=-1)
         lengths.append(length)
         if length == len(layers):
             layers.append([])

@@ -7,9 +7,9 @@ START = -1
 class Trail:
     """A term of an even book on which events are done, one after another, each at its sign.
 
-    A sign is told by the pair of the event that brought it and its place in the right side, or in the start. It has
-    two sets of events, as numbers with a bit for each event: those without which it is not there, and those without
-    which it does not stand right beneath the sign above it, as what stood between them was taken away by them.
+    A sign is told by the pair of the event that brought it and its place in the right side, or in the start. Its joints
+    are the events without which it does not stand right beneath the sign above it, as they took away what stood
+    between the two.
     """
 
     def __init__(self, book, start):
@@ -18,9 +18,8 @@ class Trail:
         self._names = {}
         self._below = {}
         self._above = {}
-        self._brought = {}
         self._joints = {}
-        self._top = self._grown(start, (), START, 0, {})
+        self._top = self._grown(start, (), START, {})
         self._above[self._top] = None
 
     def sign_at(self, place):
@@ -40,40 +39,41 @@ class Trail:
         return tuple(numbers[::-1])
 
     def do(self, sign, event):
-        """Does an event at a sign; the set of its causes, as a number with a bit for each of them."""
+        """Does an event at a sign; the ascending list of the events that brought its left side together.
+
+        These are causes of the event, and all others are causes of these.
+        """
         rule = self._fitting(sign)
-        causes, held = self._needed(rule.left, sign)
-        own = causes | 1 << event
+        needed, held = self._needed(rule.left, sign)
         above = self._above[sign]
-        joint = self._joints[sign]
-        top = self._grown(rule.right, (), event, own, held)
-        self._joints[top] = self._joints[top] | joint
+        joints = self._joints[sign]
+        if rule.right.sign() is None:
+            joints = joints + (event,)
+        top = self._grown(rule.right, (), event, held)
+        self._joints[top] = joints + self._joints[top]
         self._above[top] = above
         if above is None:
             self._top = top
         else:
             self._below[above[0]][above[1] - 1] = top
-        return causes
+        return needed
 
-    def _grown(self, side, place, event, own, held):
+    def _grown(self, side, place, event, held):
         """The sign at the top of a side, at a place of it, that an event brings with the contents of its holes."""
         if side.sign() is None:
-            sign = held[side.word]
-            self._joints[sign] = self._joints[sign] | own
-            return sign
+            return held[side.word]
         sign = (event, place)
-        parts = [self._grown(part, place + (at,), event, own, held) for at, part in enumerate(side, start=1)]
+        parts = [self._grown(part, place + (at,), event, held) for at, part in enumerate(side, start=1)]
         self._names[sign] = side.sign()
         self._below[sign] = parts
-        self._brought[sign] = own
-        self._joints[sign] = own
+        self._joints[sign] = ()
         for at, part in enumerate(parts, start=1):
             self._above[part] = (sign, at)
         return sign
 
     def _needed(self, left, sign):
-        """The pair of the events without which a left side does not fit at a sign, and the contents of its holes."""
-        causes = self._brought[sign]
+        """The pair of the events that brought a left side together at a sign, and the contents of its holes."""
+        events = [sign[0]]
         held = {}
         waiting = [(left, sign)]
         while waiting:
@@ -81,13 +81,11 @@ class Trail:
             if side.sign() is None:
                 held[side.word] = inner
             else:
-                causes = causes | self._brought[inner]
-                below = [row for row in zip(side, self._below[inner])]
-                for part, beneath in below:
+                for part, beneath in zip(side, self._below[inner]):
+                    waiting.append((part, beneath))
                     if part.sign() is not None:
-                        causes = causes | self._joints[beneath]
-                waiting.extend(below)
-        return causes, held
+                        events.extend([beneath[0], *self._joints[beneath]])
+        return [event for event in sorted(set(events)) if event != START], held
 
     def _fitting(self, sign):
         """The rule that fits at a sign."""
@@ -106,7 +104,7 @@ class Trail:
 
 
 def trail_of(way):
-    """The list of the pairs of the sign and the causes of each event of a way, the causes as for Trail.do."""
+    """The list of the pairs of the sign of each event of a way and what Trail.do tells of it."""
     trail = Trail(way.book, way.start)
     found = []
     for place in step_row(way):
