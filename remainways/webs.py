@@ -105,9 +105,7 @@ def canonical(knots):
         number = waiting[-1]
         inner = [numbers[at] for at in knots[number][1:]]
         ahead = [part for part in inner if part not in made]
-        if number in made:
-            waiting.pop()
-        elif ahead:
+        if ahead:
             waiting.append(ahead[0])
         else:
             made[number] = len(found)
