@@ -2,8 +2,8 @@
 
 from remainways.answers import answer_of, joined_words
 from remainways.books import Book
-from remainways.errors import (DuplicateName, InvalidDeed, InvalidName, Missing, NoHistory, NothingLeft, UnknownName,
-                               WorkError)
+from remainways.errors import DuplicateName, InvalidDeed, InvalidName, Missing, NoHistory, NothingLeft
+from remainways.errors import UnknownName, WorkError
 from remainways.rests import ROUNDS, check_rounds
 from remainways.stores import Store, is_deed
 from remainways.terms import Term

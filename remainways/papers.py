@@ -84,7 +84,8 @@ def left_line(grove, trees):
     """The line of what is left of two ways, the one after the other, and the other after the one."""
     downs, acrosses = trees
     one = lots_text([lot_of_tree(grove, row[-1]) for row in downs])
-    return f"left {one} {lots_text([lot_of_tree(grove, tree) for tree in acrosses[-1]])}"
+    other = lots_text([lot_of_tree(grove, tree) for tree in acrosses[-1]])
+    return f"left {one} {other}"
 
 
 def why_lines(way, piece):

@@ -1,7 +1,7 @@
 """Stores: several hands work on one term and exchange letters."""
 
-from remainways.errors import (DuplicateName, InvalidDeed, InvalidName, LastHand, NotKey, TooMany, UnknownLetter,
-                               UnknownName)
+from remainways.errors import DuplicateName, InvalidDeed, InvalidName, LastHand, NotKey, TooMany
+from remainways.errors import UnknownLetter, UnknownName
 from remainways.layers import key_of, settled
 from remainways.pasts import common_past, without
 from remainways.remains import joined, left, within

@@ -238,6 +238,18 @@ class HistoryTest(Case):
         bench.journal().clear()
         self.assert_equal([bench.journal(), Bench.replay(calls=tuple(bench.journal())) == bench], [wanted, True])
 
+    def test_lots_of_journals_are_ascending(self):
+        start = Term("f", *[Term.read("f(two(o),two(o),two(o),two(o))")] * 4)
+        lot = [(one, other) for one in range(1, 5) for other in range(1, 5)]
+        dice = random.Random(9)
+        for _ in range(5):
+            drawn = dice.sample(lot, 12)
+            bench = Bench()
+            bench.do(("book", "k", TEXT), ("store", "s", "k", start.text(), "a"))
+            bench.do(("at", "s", ("post", "-", drawn)), ("at", "s", ("do", "a", drawn + drawn[:3])))
+            wanted = tuple(sorted(drawn))
+            self.assert_equal(bench.journal()[1], (("at", "s", ("post", "-", wanted)), ("at", "s", ("do", "a", wanted))))
+
     def test_replay(self):
         bench = a_bench(HANDS)
         found = Bench.replay(bench.journal())
