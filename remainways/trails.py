@@ -16,7 +16,7 @@ class Trail:
         self._book = book
         self._rules = book.rules()
         self._names = {}
-        self._below = {}
+        self._under = {}
         self._above = {}
         self._joints = {}
         self._top = self._grown(start, (), START, {})
@@ -26,7 +26,7 @@ class Trail:
         """The sign that stands at a place now."""
         found = self._top
         for number in place:
-            found = self._below[found][number - 1]
+            found = self._under[found][number - 1]
         return found
 
     def place_of(self, sign):
@@ -55,7 +55,7 @@ class Trail:
         if above is None:
             self._top = top
         else:
-            self._below[above[0]][above[1] - 1] = top
+            self._under[above[0]][above[1] - 1] = top
         return needed
 
     def _grown(self, side, place, event, held):
@@ -65,7 +65,7 @@ class Trail:
         sign = (event, place)
         parts = [self._grown(part, place + (at,), event, held) for at, part in enumerate(side, start=1)]
         self._names[sign] = side.sign()
-        self._below[sign] = parts
+        self._under[sign] = parts
         self._joints[sign] = ()
         for at, part in enumerate(parts, start=1):
             self._above[part] = (sign, at)
@@ -81,7 +81,7 @@ class Trail:
             if side.sign() is None:
                 held[side.word] = inner
             else:
-                for part, beneath in zip(side, self._below[inner]):
+                for part, beneath in zip(side, self._under[inner]):
                     waiting.append((part, beneath))
                     if part.sign() is not None:
                         events.extend([beneath[0], *self._joints[beneath]])
@@ -100,7 +100,7 @@ class Trail:
             return True
         if left.sign() != self._names[sign]:
             return False
-        return all([self._is_fitting(part, inner) for part, inner in zip(left, self._below[sign])])
+        return all([self._is_fitting(part, inner) for part, inner in zip(left, self._under[sign])])
 
 
 def trail_of(way):

@@ -262,6 +262,16 @@ class NodesTest(unittest.TestCase):
         else:
             self.assertTrue(isinstance(item, ast.Expr) and isinstance(item.value, ast.Constant))
 
+    def test_no_name_is_a_method_and_an_attribute(self):
+        methods, attributes = set(), set()
+        for path in FILES:
+            for node in ast.walk(tree_of(path)):
+                if isinstance(node, ast.ClassDef):
+                    methods |= {item.name for item in node.body if isinstance(item, ast.FunctionDef) and item.name != "rounds"}
+                elif isinstance(node, ast.Attribute) and isinstance(node.ctx, ast.Store):
+                    attributes.add(node.attr)
+        self.assertEqual(methods & attributes, set())
+
     def test_what_a_loop_walks_is_not_changed_in_it(self):
         for path in FILES:
             for function in ast.walk(tree_of(path)):
